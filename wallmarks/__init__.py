@@ -1,0 +1,1 @@
+"""Four on a line: points of a line, and how a picture shows them."""
