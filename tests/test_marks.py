@@ -1,12 +1,13 @@
-"""Point 1: start, mark, unmark, ready."""
+"""Point 1: start, mark, unmark, ready, state; and what is refused before a start and when it isn't ready."""
 
 import unittest
 
 from sessions import (
-    END, FITS, GREATEST, LEAST, READY, START, ask, ask_marked, mark, marked, off, seen, truth, unmark)
+    END, FITS, GREATEST, LEAST, ORIGIN, READY, START, STATE, ask, ask_marked, between, double, even,
+    fourth, keeps, mark, marked, middle, off, seen, six, truth, unmark)
 
-# Every call of the interface but start, those of later stages too. 500 is no call: a list that is parted
-# at a wrong place can't be answered.
+# Every call of the interface but start. 500 is no call: a list that is parted at a wrong place can't be
+# answered.
 EVERY_OTHER_CALL = [
     [call] + [500] * count
     for call, count in [
@@ -32,11 +33,20 @@ class BeforeAStart(unittest.TestCase):
         self.assertEqual(ask(*EVERY_OTHER_CALL), [[-11]] * len(EVERY_OTHER_CALL))
 
     def test_it_is_named_ahead_of_every_other_refusal(self):
-        calls = [mark(-1, 0), mark(0, 1001), unmark(7), truth(-1), seen(1001), off(7)]
+        calls = [
+            mark(-1, 0), mark(0, 1001), unmark(7), truth(-1), seen(1001), off(7), ORIGIN, between(-1, 0),
+            middle(0, 1001), double(0, 0, 0, 1), double(0, 1, 2, 0), six(0, 0, 1, 2), fourth(0, 1, 2, 0, 0),
+            fourth(0, 0, 1, 1, 1), even(0, 2, 1), even(0, 0, 1), keeps(0, 1, 2, -1), keeps(0, 1, 2, 0)]
         self.assertEqual(ask(*calls), [[-11]] * len(calls))
 
     def test_a_mark_before_a_start_is_not_kept(self):
-        self.assertEqual(ask(mark(1, 1), START, unmark(0), mark(2, 2)), [[-11], [0], [-2], [0]])
+        self.assertEqual(
+            ask(mark(1, 1), START, STATE, unmark(0), mark(2, 2)), [[-11], [0], [0], [-2], [0]])
+
+    def test_what_would_be_answered_behind_one(self):
+        calls = [
+            STATE, double(0, 1, 2, 3), six(0, 1, 2, 3), fourth(0, 1, 2, 1, 3), even(0, 1, 3), READY]
+        self.assertEqual(ask(*calls), [[-11]] * len(calls))
 
 
 class Start(unittest.TestCase):
@@ -167,6 +177,54 @@ class Ready(unittest.TestCase):
             ask_marked(HALF + [(10, 5)], READY, unmark(0), READY), [[1], [3], [0]])
 
 
+class State(unittest.TestCase):
+    def test_without_marks(self):
+        self.assertEqual(ask(START, STATE), [[0], [0]])
+
+    def test_one(self):
+        self.assertEqual(ask_marked([(3, 7)], STATE), [[1, 3, 7]])
+
+    def test_each_one_in_order(self):
+        self.assertEqual(ask_marked([(9, 1), (0, 1000), (1000, 0)], STATE), [[3, 9, 1, 0, 1000, 1000, 0]])
+
+    def test_eight(self):
+        marks = [(10 * k, 1000 - k) for k in range(8)]
+        told = [8] + [number for one in marks for number in one]
+        self.assertEqual(ask_marked(marks, STATE, mark(5, 6), STATE), [told, [-28], told])
+
+    def test_behind_each_mark(self):
+        self.assertEqual(
+            ask(START, STATE, mark(5, 6), STATE, mark(5, 6), STATE),
+            [[0], [0], [0], [1, 5, 6], [1], [2, 5, 6, 5, 6]])
+
+    def test_behind_an_unmark(self):
+        marks = [(1, 2), (3, 4), (5, 6)]
+        for i, left in [(0, [3, 4, 5, 6]), (1, [1, 2, 5, 6]), (2, [1, 2, 3, 4])]:
+            self.assertEqual(ask_marked(marks, unmark(i), STATE), [[2], [2] + left], i)
+
+    def test_behind_an_unmark_of_the_only_one(self):
+        self.assertEqual(ask_marked([(1, 2)], unmark(0), STATE), [[0], [0]])
+
+    def test_a_mark_behind_an_unmark_is_the_last(self):
+        self.assertEqual(
+            ask_marked([(1, 2), (3, 4)], unmark(0), mark(5, 6), STATE), [[1], [1], [2, 3, 4, 5, 6]])
+
+    def test_what_is_refused_changes_nothing(self):
+        self.assertEqual(
+            ask_marked([(1, 2)], mark(-1, 3), mark(3, 1001), unmark(1), STATE),
+            [[-22], [-22], [-2], [1, 1, 2]])
+
+    def test_behind_another_start(self):
+        self.assertEqual(ask_marked(HALF, START, STATE), [[0], [0]])
+
+    def test_no_other_call_changes_it(self):
+        calls = [
+            READY, truth(5), seen(5), off(1), FITS, END, ORIGIN, between(1, 2), middle(1, 2),
+            double(1, 2, 3, 4), six(1, 2, 3, 4), fourth(1, 2, 3, 4, 5), even(1, 2, 4), keeps(1, 2, 3, 4), STATE]
+        for call in calls:
+            self.assertEqual(ask_marked(HALF, call, STATE)[1], [3, 0, 0, 10, 20, 30, 60], call)
+
+
 class NotReady(unittest.TestCase):
     NEVER_READY = [
         [], [(0, 0)], [(0, 0), (1, 1)],
@@ -177,8 +235,25 @@ class NotReady(unittest.TestCase):
     def test_what_needs_it_is_refused(self):
         for marks in self.NEVER_READY:
             self.assertEqual(
-                ask_marked(marks, truth(0), truth(1000), seen(0), seen(1000), FITS, END),
-                [[-16]] * 6, marks)
+                ask_marked(
+                    marks, truth(0), truth(1000), seen(0), seen(1000), FITS, END, ORIGIN, between(0, 1000),
+                    between(5, 5), middle(0, 1000), middle(5, 5), keeps(0, 1, 2, 3)),
+                [[-16]] * 12, marks)
+
+    def test_it_is_named_ahead_of_what_is_below_being_0(self):
+        for marks in self.NEVER_READY:
+            self.assertEqual(
+                ask_marked(marks, keeps(0, 1, 2, 0), keeps(0, 1, 1, 2), keeps(0, 1, 1, 0)), [[-16]] * 3, marks)
+
+    def test_what_does_not_need_it_is_answered(self):
+        for marks in self.NEVER_READY:
+            self.assertEqual(
+                ask_marked(marks, double(0, 1, 2, 3), even(0, 1, 3), fourth(0, 1, 2, 4, 3)),
+                [[0, 4, 3], [0, 3, 5], [0, 3, 1]], marks)
+            self.assertEqual(
+                ask_marked(marks, six(0, 1, 2, 3)), [[0, 4, 3, 3, 4, -1, 3, -3, 1, 1, 4, 4, 1]], marks)
+            self.assertEqual(
+                ask_marked(marks, STATE), [[len(marks)] + [number for one in marks for number in one]])
 
     def test_off_of_a_mark_that_is_there(self):
         for marks in self.NEVER_READY:
@@ -190,6 +265,11 @@ class NotReady(unittest.TestCase):
             self.assertEqual(
                 ask_marked(marks, truth(-1), truth(1001), seen(-1), seen(1001), off(len(marks))),
                 [[-22], [-22], [-22], [-22], [-2]], marks)
+            self.assertEqual(
+                ask_marked(
+                    marks, between(-1, 0), between(0, 1001), middle(1001, 0), middle(0, -1),
+                    keeps(-1, 0, 1, 2), keeps(0, 1, 2, 1001), keeps(0, 0, 0, 1), keeps(5, 5, 5, 5)),
+                [[-22]] * 8, marks)
 
 
 if __name__ == "__main__":

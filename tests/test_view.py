@@ -1,20 +1,11 @@
-"""Point 2, as far as truth, seen, off, fits and end go; and 'What holds' b."""
+"""Point 2: truth, seen, off, fits, end, origin; and 'What holds' b."""
 
 import unittest
 from fractions import Fraction
 from itertools import permutations, product
 
-from sessions import END, FITS, GREATEST, LEAST, ask_marked, off, seen, truth, unmark
-
-HALF = [(0, 0), (10, 20), (30, 60)]             # t = m / 2
-TURNED = [(1000, 0), (990, 10), (0, 1000)]      # t = 1000 - m
-BACK_BY_TEN = [(0, 10), (5, 15), (20, 30)]      # t = m - 10
-ROAD = [(0, 0), (50, 100), (75, 300)]           # t = 100 m / (m + 100)
-BROKEN = [(0, 0), (200, 100), (150, 150)]       # t = 100 m / (m - 50)
-INVERSE = [(1000, 1), (500, 2), (10, 100)]      # t = 1000 / m
-FALLING = [(100, 0), (0, 100), (60, 25)]        # t = (10000 - 100 m) / (m + 100)
-UNEVEN = [(0, 0), (1, 1), (2, 6)]               # t = 5 m / (2 m + 3)
-VIEWS = [HALF, TURNED, BACK_BY_TEN, ROAD, BROKEN, INVERSE, FALLING, UNEVEN]
+from sessions import END, FITS, GREATEST, LEAST, ORIGIN, ask_marked, off, seen, truth, unmark
+from views import BACK_BY_TEN, BROKEN, FALLING, HALF, INVERSE, ROAD, TURNED, UNEVEN, VIEWS
 
 
 class Truth(unittest.TestCase):
@@ -138,12 +129,37 @@ class End(unittest.TestCase):
         self.assertEqual(ask_marked(ROAD + [(7, 7), (8, 900)], END), [[0, 100, 1]])
 
 
+class Origin(unittest.TestCase):
+    def test_what_is_in_truth_there(self):
+        for marks, answer in [
+                (ROAD, [0, -100, 1]), (BROKEN, [0, 50, 1]), (INVERSE, [0, 0, 1]),
+                (FALLING, [0, -100, 1]), (UNEVEN, [0, -3, 2])]:
+            self.assertEqual(ask_marked(marks, ORIGIN), [answer], marks)
+
+    def test_a_view_that_is_only_longer(self):
+        for marks in [HALF, TURNED, BACK_BY_TEN]:
+            self.assertEqual(ask_marked(marks, ORIGIN, END), [[-33], [-33]], marks)
+
+    def test_it_is_seen_beyond_all(self):
+        for marks, m in [(BROKEN, 50), (INVERSE, 0)]:
+            self.assertEqual(ask_marked(marks, ORIGIN, seen(m)), [[0, m, 1], [-6]], marks)
+
+    def test_it_is_the_end_with_picture_and_truth_exchanged(self):
+        for marks in VIEWS:
+            exchanged = [(m, t) for t, m in marks]
+            self.assertEqual(ask_marked(marks, ORIGIN), ask_marked(exchanged, END), marks)
+            self.assertEqual(ask_marked(marks, END), ask_marked(exchanged, ORIGIN), marks)
+
+    def test_marks_behind_the_third_change_nothing(self):
+        self.assertEqual(ask_marked(ROAD + [(7, 7), (8, 900)], ORIGIN), [[0, -100, 1]])
+
+
 class OthersBecomeTheFirstThree(unittest.TestCase):
     def test_all_is_told_by_the_new_view(self):
         marks = [(999, 0)] + ROAD
-        answers = ask_marked(marks, unmark(0), truth(50), seen(50), off(2), FITS, END)
+        answers = ask_marked(marks, unmark(0), truth(50), seen(50), off(2), FITS, END, ORIGIN)
         self.assertEqual(
-            answers, [[3], [0, 100, 1], [0, 100, 3], [0, 0, 1], [1], [0, 100, 1]])
+            answers, [[3], [0, 100, 1], [0, 100, 3], [0, 0, 1], [1], [0, 100, 1], [0, -100, 1]])
 
     def test_another_view_before(self):
         marks = HALF[:2] + [(5, 40), (30, 60)]
@@ -194,17 +210,21 @@ class ThreeMarksTellAll(unittest.TestCase):
                 self.in_lowest_form(back)
                 self.in_lowest_form(there)
 
-    def test_end_keeps_the_double_ratio(self):
+    def beyond_all_keeps_the_double_ratio(self, from_three, to_three, answer):
+        above, below = double_ratio_sides_beyond(*from_three)
+        if answer == [-33]:
+            other_above, other_below = double_ratio_sides_beyond(*to_three)
+        else:
+            self.in_lowest_form(answer)
+            other_above, other_below = double_ratio_sides(*to_three, Fraction(answer[1], answer[2]))
+        self.assertEqual(above * other_below, below * other_above, (from_three, to_three))
+
+    def test_end_and_origin_keep_the_double_ratio(self):
         sources = list(permutations(self.PLACES, 3))
         for ts, ms in product(sources, sources[::7]):
-            answer = ask_marked(zip(ts, ms), END)[0]
-            above, below = double_ratio_sides_beyond(*ms)
-            if answer == [-33]:
-                other_above, other_below = double_ratio_sides_beyond(*ts)
-            else:
-                self.in_lowest_form(answer)
-                other_above, other_below = double_ratio_sides(*ts, Fraction(answer[1], answer[2]))
-            self.assertEqual(above * other_below, below * other_above, (ts, ms))
+            end, origin = ask_marked(zip(ts, ms), END, ORIGIN)
+            self.beyond_all_keeps_the_double_ratio(ms, ts, end)
+            self.beyond_all_keeps_the_double_ratio(ts, ms, origin)
 
     def test_seen_as_they_are_marked(self):
         for marks in VIEWS:
@@ -220,7 +240,7 @@ class ThreeMarksTellAll(unittest.TestCase):
 
     def test_the_order_of_the_three_changes_nothing(self):
         for marks in VIEWS:
-            calls = [truth(3), truth(100), seen(3), seen(50), FITS, END]
+            calls = [truth(3), truth(100), seen(3), seen(50), FITS, END, ORIGIN]
             expected = ask_marked(marks, *calls)
             for order in permutations(marks):
                 self.assertEqual(ask_marked(order, *calls), expected, order)
@@ -229,8 +249,9 @@ class ThreeMarksTellAll(unittest.TestCase):
         # t = 1000 m / (999001 m - 998001000)
         marks = [(0, 0), (1, 1000), (1000, 999)]
         self.assertEqual(
-            ask_marked(marks, truth(999), seen(1), END),
-            [[0, 997002999000, 998000999], [0, -1000, 997001999], [0, 1000, 999001]])
+            ask_marked(marks, truth(999), seen(1), END, ORIGIN),
+            [[0, 997002999000, 998000999], [0, -1000, 997001999], [0, 1000, 999001],
+             [0, 998001000, 999001]])
 
 
 if __name__ == "__main__":

@@ -28,6 +28,22 @@ def point_beyond_all():
     return Point(1, 0)
 
 
+def excess(more, less):
+    """How much one point is more than another, times what stands below in both of them."""
+    return more.above * less.below - less.above * more.below
+
+
+def difference(more, less):
+    """By how much one point is more than another; neither is beyond all."""
+    return Point(excess(more, less), more.below * less.below)
+
+
+def middle_point(first, second):
+    """The middle of two points that aren't beyond all."""
+    above = first.above * second.below + second.above * first.below
+    return Point(above, 2 * first.below * second.below)
+
+
 def common_divisor(first, second):
     """The greatest number that divides both; 1 or more if they aren't both 0."""
     larger = abs(first)

@@ -1,6 +1,7 @@
 """What one object keeps from call to call: its marks."""
 
 from wallmarks.mapping import view_of_three
+from wallmarks.points import point_at
 
 MARKS_OF_A_VIEW = 3
 
@@ -39,6 +40,11 @@ class Session:
     def view(self):
         """Takes truth to where it's seen; asked for only when it's ready."""
         return view_of_three(self.first_true(), self.first_seen())
+
+    def true_points(self, places):
+        """What's in truth at these places of the picture; asked for only when it's ready."""
+        back = self.view().turned_round()
+        return [back.image(point_at(place)) for place in places]
 
 
 def makes_a_view(places):

@@ -3,8 +3,7 @@
 from wallmarks.calls import answer
 from wallmarks.session import Session
 
-# How many numbers each call of the interface has behind its own. Calls that aren't built yet stand here
-# too: ahead of a start they are answered like every other, and what comes behind them must be found.
+# How many numbers each call of the interface has behind its own.
 NUMBERS_OF_CALL = (0, 2, 1, 0, 1, 1, 1, 0, 0, 0, 2, 2, 4, 4, 5, 3, 4, 0)
 
 
